@@ -1,0 +1,1 @@
+"""Which of a part's cuts a tool can reach, and when."""
