@@ -1,6 +1,7 @@
 """The calls on a part's text and a tool text, both handed in as lists of bytes."""
 
 TOO_LONG = -2
+UNKNOWN_CUT = -4
 FAULTY = -6
 
 # Why a line is wrong.
@@ -24,6 +25,10 @@ LINE_FEED = 10
 BLANK = 32
 WAY_SIGNS = "rlbfud"
 
+ALL_WAYS = (0, 1, 2, 3, 4, 5)
+# Of each axis the two others.
+CROSSING_AXES = ((1, 2), (0, 2), (0, 1))
+
 NO_NUMBER = -1
 # Beyond every bound there is, so that a number of thousands of digits needs no more than this.
 HUGE = 1000
@@ -42,6 +47,28 @@ class Plan:
 def judge(part, tools):
     """[0] if both texts are right, or else the refusal."""
     return read_texts(part, tools).refusal or [0]
+
+
+def reach(k, part, tools, made):
+    """How many ways there are from which cut k can be reached when those made are, then they, or the refusal."""
+    plan = read_call([k], part, tools)
+    if plan.refusal:
+        return plan.refusal
+    others = [number for number in sorted(set(made)) if number < len(plan.cuts) and number != k]
+    return counted(ways_to(k, plan, wood_left(plan, others)))
+
+
+def counted(numbers):
+    """How many numbers there are, then they."""
+    return [len(numbers)] + numbers
+
+
+def read_call(asked, part, tools):
+    """The plan of both texts; it is refused too if one of the cuts asked about isn't there."""
+    plan = read_texts(part, tools)
+    if not plan.refusal and max(asked) >= len(plan.cuts):
+        plan.refusal = [UNKNOWN_CUT]
+    return plan
 
 
 def read_texts(part, tools):
@@ -139,11 +166,11 @@ def tool_told(words):
     if len(words) != 4 or words[0] != signs_of("tool"):
         return ()
     cut_number = number_of(words[1])
-    ways = ways_of(words[2])
+    allowed = ways_of(words[2])
     depth = number_of(words[3])
-    if cut_number == NO_NUMBER or not ways or not is_size(depth):
+    if cut_number == NO_NUMBER or not allowed or not is_size(depth):
         return ()
-    return (cut_number, ways, depth)
+    return (cut_number, allowed, depth)
 
 
 def goes_beyond(cut, block):
@@ -218,7 +245,74 @@ def number_of(word):
 def ways_of(word):
     """The ways the word tells, rising, or an empty list if it isn't formed."""
     signs = signs_of(WAY_SIGNS)
-    ways = [signs.index(sign) for sign in word if sign in signs]
-    if len(ways) != len(word) or ways != sorted(set(ways)):
+    told = [signs.index(sign) for sign in word if sign in signs]
+    if len(told) != len(word) or told != sorted(set(told)):
         return []
-    return ways
+    return told
+
+
+def wood_left(plan, made):
+    """The wood of the block when the cuts made are.
+
+    For each axis it is the layers across it, one behind the other. A layer is a number with a bit for each of its
+    cells, so that the cells of one line along the axis have the same bit in all layers.
+    """
+    block = [0, 0, 0] + plan.block
+    wood = [[lines_through(block, axis)] * plan.block[axis] for axis in range(3)]
+    for number in made:
+        take_away(wood, plan.cuts[number])
+    return wood
+
+
+def take_away(wood, cut):
+    """Take the cut's cells out of the wood."""
+    for axis in range(3):
+        layers = wood[axis]
+        gone = lines_through(cut, axis)
+        for place in range(cut[axis], cut[axis] + cut[axis + 3]):
+            layers[place] = layers[place] & ~gone
+
+
+def lines_through(box, axis):
+    """The bits of the lines of cells along the axis that go through the box."""
+    inner = CROSSING_AXES[axis][0]
+    outer = CROSSING_AXES[axis][1]
+    row = ((1 << box[inner + 3]) - 1) << box[inner]
+    bits = 0
+    for place in range(box[outer], box[outer] + box[outer + 3]):
+        bits = bits | (row << (place * MOST_CELLS))
+    return bits
+
+
+def ways_to(k, plan, wood):
+    """The ways from which cut k can be reached, rising; cut k itself isn't made."""
+    cut = plan.cuts[k]
+    tool = plan.tools.get(k, (ALL_WAYS, MOST_CELLS))
+    near = [way for way in tool[0] if depth_from(way, cut, plan.block) <= tool[1]]
+    return [way for way in near if is_clear(way, cut, wood)]
+
+
+def depth_from(way, cut, block):
+    """How many cells there are from the block's face to the cut's farthest cell."""
+    axis = way // 2
+    return block[axis] - cut[axis] if way % 2 == 0 else cut[axis] + cut[axis + 3]
+
+
+def is_clear(way, cut, wood):
+    """Whether no wood of the cut has wood beyond the cut farther out that way."""
+    axis = way // 2
+    layers = wood[axis]
+    start = cut[axis]
+    end = start + cut[axis + 3]
+    beyond = layers[end:] if way % 2 == 0 else layers[:start]
+    # Cells farther out in the cut itself don't matter, so a line is in the way just if it has wood in both.
+    blocked = lines_through(cut, axis) & lines_with_wood(layers[start:end]) & lines_with_wood(beyond)
+    return blocked == 0
+
+
+def lines_with_wood(layers):
+    """The bits of the lines that have wood in some of the layers."""
+    bits = 0
+    for layer in layers:
+        bits = bits | layer
+    return bits

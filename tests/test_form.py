@@ -28,6 +28,7 @@ BARRED_NODES = (ast.GeneratorExp, ast.SetComp, ast.DictComp, ast.NamedExpr, ast.
                 ast.YieldFrom, ast.Await)
 SIGNATURES = {
     "judge": ["part", "tools"],
+    "reach": ["k", "part", "tools", "made"],
 }
 
 
@@ -94,9 +95,23 @@ class Interface(unittest.TestCase):
     def test_prints_nothing(self):
         printed = io.StringIO()
         with contextlib.redirect_stdout(printed), contextlib.redirect_stderr(printed):
-            tools.judge([112], [])
-            tools.judge([ord(sign) for sign in "part a 1 1 1 x\n"], [])
+            for part in ([112], [], list(b"part a 1 1 1 x\ncut 0 0 0 1 1 1\n")):
+                for name, parameters in SIGNATURES.items():
+                    given = {"part": part, "tools": [], "made": [0]}
+                    getattr(tools, name)(*(given.get(parameter, 0) for parameter in parameters))
         self.assertEqual(printed.getvalue(), "")
+
+
+class Readme(unittest.TestCase):
+    def test_examples(self):
+        text = (FOLDER.parent / "README.md").read_text()
+        code = re.search(r"```python\n(.*?)```", text, re.DOTALL).group(1)
+        names = {}
+        exec(code, names)
+        shown = re.findall(r"^(.*\S) +# (\[.*\])$", code, re.MULTILINE)
+        self.assertGreaterEqual(len(shown), len(SIGNATURES))
+        for call, answer in shown:
+            self.assertEqual(eval(call, names), ast.literal_eval(answer), call)
 
 
 if __name__ == "__main__":

@@ -1,35 +1,17 @@
 """Promise 1, and all that the document says of judge."""
 
-import re
 import unittest
 
 from cutreach.tools import judge
+from helper import MOST, CallCase, expected_judge, signs
 
 PART = "part a1 16 8 4 x\n"
 CUTS = PART + "cut 0 0 0 1 1 1\ncut 3 2 1 4 4 2\ncut 15 7 3 1 1 1\n"
-MOST = 16384
 
 
-def signs(text):
-    return list(text) if isinstance(text, bytes) else [ord(sign) for sign in text]
-
-
-class Kept(list):
-    """A list that tells when something tries to change it, even for a while."""
-
-    def refuse(self, *args, **kwargs):
-        raise AssertionError("what is handed in was changed")
-
-    append = clear = extend = insert = pop = remove = reverse = sort = refuse
-    __setitem__ = __delitem__ = __iadd__ = __imul__ = refuse
-
-
-class JudgeCase(unittest.TestCase):
+class JudgeCase(CallCase):
     def told(self, part, tools, answer):
-        found = judge(signs(part), signs(tools))
-        self.assertEqual(found, answer, (part[:200], tools[:200]))
-        self.assertIs(type(found), list)
-        self.assertEqual({type(number) for number in found}, {int})
+        self.alike(judge(signs(part), signs(tools)), answer, (part[:200], tools[:200]))
 
     def right(self, part, tools=""):
         self.told(part, tools, [0])
@@ -329,54 +311,6 @@ class ToolLines(JudgeCase):
             self.part_fault(PART + "cut 0 0 0 1 1 1\n" * 65, 65, 2, tools)
 
 
-SIZE = rb"([1-9]|1[0-6])"
-NUMBER = rb"(0|[1-9][0-9]*)"
-PART_LINE = re.compile(rb"part [a-z0-9]{1,12} " + b" ".join([SIZE] * 3) + rb" [xyz]\n")
-CUT_LINE = re.compile(rb"cut " + b" ".join([NUMBER] * 3 + [SIZE] * 3) + rb"\n")
-TOOL_LINE = re.compile(rb"tool " + NUMBER + rb" (?=[a-z])r?l?b?f?u?d? " + SIZE + rb"\n")
-
-
-def expected_part(text):
-    """The part's fault, or how many cuts it has, by the table of lines read another way."""
-    lines = re.findall(rb"[^\n]*\n|[^\n]+", text)
-    if not lines:
-        return (0, 3), 0
-    block = None
-    for number, line in enumerate(lines):
-        part = PART_LINE.fullmatch(line)
-        cut = CUT_LINE.fullmatch(line)
-        if not part and not cut:
-            return (number, 1), 0
-        if (number == 0) != bool(part):
-            return (number, 3), 0
-        if part:
-            block = [int(size) for size in part.groups()]
-            continue
-        x, y, z, w, d, h = (int(told) for told in cut.groups())
-        if x + w > block[0] or y + d > block[1] or z + h > block[2]:
-            return (number, 4), 0
-        if number > 64:
-            return (number, 2), 0
-    return None, len(lines) - 1
-
-
-def expected(part, tools):
-    fault, cuts = expected_part(part)
-    if fault:
-        return [-6, *fault]
-    seen = []
-    for number, line in enumerate(re.findall(rb"[^\n]*\n|[^\n]+", tools)):
-        tool = TOOL_LINE.fullmatch(line)
-        if not tool:
-            return [-6, number, 17]
-        if int(tool.group(1)) >= cuts:
-            return [-6, number, 19]
-        if tool.group(1) in seen:
-            return [-6, number, 20]
-        seen.append(tool.group(1))
-    return [0]
-
-
 def near(text):
     """Every text that is one byte away: one put in, one put in another's place, one left out."""
     for place in range(len(text) + 1):
@@ -392,11 +326,11 @@ class EveryByte(JudgeCase):
 
     def test_part(self):
         for part in near(self.PART):
-            self.told(part, self.TOOLS, expected(part, self.TOOLS))
+            self.told(part, self.TOOLS, expected_judge(part, self.TOOLS))
 
     def test_tools(self):
         for tools in near(self.TOOLS):
-            self.told(self.PART, tools, expected(self.PART, tools))
+            self.told(self.PART, tools, expected_judge(self.PART, tools))
 
     def test_bytes_of_no_line(self):
         for sign in (0, 1, 9, 11, 13, 31, 127, 128, 160, 178, 255):
@@ -421,30 +355,14 @@ class NothingKept(JudgeCase):
         (CUTS, "a" * (MOST + 1)),
     )
 
-    def test_lists_are_left_as_they_are(self):
+    def test_lists_stay_and_the_same_comes_again(self):
         for part, tools in self.CASES:
-            given_part = Kept(signs(part))
-            given_tools = Kept(signs(tools))
-            judge(given_part, given_tools)
-            self.assertEqual(list(given_part), signs(part))
-            self.assertEqual(list(given_tools), signs(tools))
+            self.nothing_kept(judge, signs(part), signs(tools))
 
     def test_one_list_may_be_both(self):
         given = signs(PART)
         self.assertEqual(judge(given, given), [-6, 0, 17])
         self.assertEqual(given, signs(PART))
-
-    def test_again_gives_the_same_in_a_new_list(self):
-        for part, tools in self.CASES:
-            given_part = signs(part)
-            given_tools = signs(tools)
-            first = judge(given_part, given_tools)
-            kept = list(first)
-            second = judge(given_part, given_tools)
-            self.assertIsNot(first, second)
-            first.append(77)
-            self.assertEqual(second, kept)
-            self.assertEqual(judge(given_part, given_tools), kept)
 
     def test_calls_do_not_meet(self):
         answers = [judge(signs(part), signs(tools)) for part, tools in self.CASES]
