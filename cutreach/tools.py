@@ -58,6 +58,14 @@ def reach(k, part, tools, made):
     return counted(ways_to(k, plan, wood_left(plan, others)))
 
 
+def order(part, tools):
+    """How many cuts are made in the order, then they, or the refusal."""
+    plan = read_texts(part, tools)
+    if plan.refusal:
+        return plan.refusal
+    return counted(order_of(list(range(len(plan.cuts))), plan))
+
+
 def counted(numbers):
     """How many numbers there are, then they."""
     return [len(numbers)] + numbers
@@ -316,3 +324,23 @@ def lines_with_wood(layers):
     for layer in layers:
         bits = bits | layer
     return bits
+
+
+def order_of(allowed, plan):
+    """The order of the cuts that are made where only those allowed, told rising, may be."""
+    wood = wood_left(plan, [])
+    made = []
+    number = least_ready(allowed, made, plan, wood)
+    while number != NO_NUMBER:
+        made.append(number)
+        take_away(wood, plan.cuts[number])
+        number = least_ready(allowed, made, plan, wood)
+    return made
+
+
+def least_ready(allowed, made, plan, wood):
+    """The least number of a cut that is allowed, isn't made and can be, or NO_NUMBER."""
+    for number in allowed:
+        if number not in made and ways_to(number, plan, wood):
+            return number
+    return NO_NUMBER

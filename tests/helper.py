@@ -183,23 +183,69 @@ class Reading:
         others = {number for number in made if number < len(self.boxes) and number != k}
         return [way for way in range(6) if self.is_reached(k, way, others)]
 
+    def can_be_made(self, k, made):
+        return any(self.is_reached(k, way, made) for way in range(6))
 
-def draw(source, most_cells=4, most_cuts=7):
-    """A part's text and its tools', by chance: small, so that cuts stand in one another's way."""
-    block = [source.randint(1, most_cells) for axis in range(3)]
-    cuts = []
-    for number in range(source.randint(0, most_cuts)):
-        places = [source.randrange(size) for size in block]
-        sizes = [min(source.choice((1, 1, 1, 2, 2, 3)), size - place) for size, place in zip(block, places)]
-        cuts.append(places + sizes)
-    rows = [(k, draw_ways(source), source.choice((1, 2, 2, 3, 4, 16)))
-            for k in range(len(cuts)) if source.random() < 0.8]
+    def ready(self, made, barred=()):
+        return [k for k in range(len(self.boxes))
+                if k not in made and k not in barred and self.can_be_made(k, made)]
+
+    def order(self):
+        made = []
+        while self.ready(made):
+            made.append(self.ready(made)[0])
+        return made
+
+    def made_by_chance(self, source, barred=()):
+        """Whichever can be made is made, as long as any can be."""
+        made = []
+        found = self.ready(made, barred)
+        while found:
+            made.append(source.choice(found))
+            found = self.ready(made, barred)
+        return made
+
+
+def draw(source, block=None, most_cuts=14):
+    """A part's text and its tools', by chance: few cells, so that cuts stand in one another's way."""
+    if block is None:
+        block = [source.randint(1, 6), source.randint(1, 3), source.randint(1, 2)]
+        source.shuffle(block)
+    if source.random() < 0.5:
+        cuts = [draw_box(source, block) for number in range(source.randint(0, most_cuts))]
+    else:
+        cells = sorted(box_cells(0, 0, 0, *block))
+        cuts = [cell + (1, 1, 1) for cell in source.sample(cells, min(len(cells), most_cuts))]
+    # With few ways for all of them cuts lie behind one another in long rows.
+    favoured = source.sample(WAY_SIGNS, source.choice((1, 2, 2, 3, 6)))
+    depths = source.choice(((16,), (16,), (1, 2, 2, 3, 4, 16)))
+    told = source.choice((0.6, 0.9, 1))
+    rows = [(k, draw_ways(source, favoured), source.choice(depths))
+            for k in range(len(cuts)) if source.random() < told]
     source.shuffle(rows)
     return part_text(block, cuts), tool_text(rows)
 
 
-def draw_ways(source):
-    told = source.sample(WAY_SIGNS, source.choice((1, 1, 1, 2, 2, 3, 6)))
+def draw_box(source, block):
+    places = [source.randrange(size) for size in block]
+    sizes = [min(source.choice((1, 1, 1, 2, 2, 3)), size - place) for size, place in zip(block, places)]
+    return places + sizes
+
+
+def snake():
+    """64 cuts in the largest block, each of which but the last waits for the one behind it."""
+    cuts = []
+    rows = []
+    for number in range(63, -1, -1):
+        row, along = divmod(63 - number, 16)
+        cuts.insert(0, (15 - along if row % 2 == 0 else along, row, 0, 1, 1, 16))
+        sign = "rl"[row % 2]
+        rows.append((number, "f" if row and not along else sign, 16))
+    return part_text((16, 16, 16), cuts), tool_text(rows)
+
+
+def draw_ways(source, favoured):
+    told = source.sample(favoured, min(len(favoured), source.choice((1, 1, 1, 2, 3, 6))))
     return "".join(sign for sign in WAY_SIGNS if sign in told)
 
 

@@ -29,6 +29,7 @@ BARRED_NODES = (ast.GeneratorExp, ast.SetComp, ast.DictComp, ast.NamedExpr, ast.
 SIGNATURES = {
     "judge": ["part", "tools"],
     "reach": ["k", "part", "tools", "made"],
+    "order": ["part", "tools"],
 }
 
 

@@ -283,8 +283,8 @@ class Drawn(ReachCase):
 
     def test_second_reading_of_large_parts(self):
         source = random.Random(52)
-        for number in range(12):
-            part, tools = draw(source, most_cells=16, most_cuts=20)
+        for number in range(40):
+            part, tools = draw(source, (16, 14, 15), 20)
             reading = Reading(part, tools)
             cuts = len(reading.boxes)
             for k in range(cuts):
