@@ -61,9 +61,13 @@ def reach(k, part, tools, made):
 def order(part, tools):
     """How many cuts are made in the order, then they, or the refusal."""
     plan = read_texts(part, tools)
-    if plan.refusal:
-        return plan.refusal
-    return counted(order_of(list(range(len(plan.cuts))), plan))
+    return plan.refusal or counted(order_of(list(range(len(plan.cuts))), plan))
+
+
+def round_of(k, part, tools):
+    """Cut k's round, 0 if it's never made, or the refusal."""
+    plan = read_call([k], part, tools)
+    return plan.refusal or [round_in(k, plan)]
 
 
 def counted(numbers):
@@ -344,3 +348,21 @@ def least_ready(allowed, made, plan, wood):
         if number not in made and ways_to(number, plan, wood):
             return number
     return NO_NUMBER
+
+
+def round_in(k, plan):
+    """The round of cut k, or 0 if it's never made."""
+    wood = wood_left(plan, [])
+    left = list(range(len(plan.cuts)))
+    ready = left
+    number = 0
+    while ready:
+        number = number + 1
+        # All of a round are looked for ahead of taking any of them away: none may free another of the same round.
+        ready = [cut_number for cut_number in left if ways_to(cut_number, plan, wood)]
+        if k in ready:
+            return number
+        for cut_number in ready:
+            take_away(wood, plan.cuts[cut_number])
+        left = [cut_number for cut_number in left if cut_number not in ready]
+    return 0

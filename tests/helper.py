@@ -196,6 +196,16 @@ class Reading:
             made.append(self.ready(made)[0])
         return made
 
+    def round_of(self, k):
+        made = []
+        number = 1
+        while k not in self.ready(made):
+            if not self.ready(made):
+                return 0
+            made = made + self.ready(made)
+            number += 1
+        return number
+
     def made_by_chance(self, source, barred=()):
         """Whichever can be made is made, as long as any can be."""
         made = []

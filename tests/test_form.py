@@ -30,6 +30,7 @@ SIGNATURES = {
     "judge": ["part", "tools"],
     "reach": ["k", "part", "tools", "made"],
     "order": ["part", "tools"],
+    "round_of": ["k", "part", "tools"],
 }
 
 
