@@ -1,8 +1,10 @@
 """The calls on a part's text and a tool text, both handed in as lists of bytes."""
 
 TOO_LONG = -2
+NEVER_MADE = -3
 UNKNOWN_CUT = -4
 FAULTY = -6
+ALIKE = -8
 
 # Why a line is wrong.
 RIGHT = 0
@@ -68,6 +70,20 @@ def round_of(k, part, tools):
     """Cut k's round, 0 if it's never made, or the refusal."""
     plan = read_call([k], part, tools)
     return plan.refusal or [round_in(k, plan)]
+
+
+def waits(a, b, part, tools):
+    """[1] if cut b waits for cut a, [0] if it doesn't, or the refusal."""
+    plan = read_call([a, b], part, tools)
+    if plan.refusal:
+        return plan.refusal
+    if a == b:
+        return [ALIKE]
+    numbers = list(range(len(plan.cuts)))
+    if b not in order_of(numbers, plan):
+        return [NEVER_MADE]
+    without = order_of([number for number in numbers if number != a], plan)
+    return [0] if b in without else [1]
 
 
 def counted(numbers):

@@ -215,6 +215,12 @@ class Reading:
             found = self.ready(made, barred)
         return made
 
+    def waits(self, a, b, source):
+        """Of two cuts that aren't alike: whether b is never made where a may not be; None if b is never made."""
+        if b not in self.made_by_chance(source):
+            return None
+        return b not in self.made_by_chance(source, (a,))
+
 
 def draw(source, block=None, most_cuts=14):
     """A part's text and its tools', by chance: few cells, so that cuts stand in one another's way."""
@@ -240,6 +246,12 @@ def draw_box(source, block):
     places = [source.randrange(size) for size in block]
     sizes = [min(source.choice((1, 1, 1, 2, 2, 3)), size - place) for size, place in zip(block, places)]
     return places + sizes
+
+
+def row_of_cells(places):
+    """Cells of a row of five in the order of these places, to which the tools come from the right alone."""
+    part = part_text((5, 1, 1), [(x, 0, 0, 1, 1, 1) for x in places])
+    return part, tool_text([(k, "r", 16) for k in range(len(places))])
 
 
 def snake():

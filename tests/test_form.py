@@ -31,6 +31,7 @@ SIGNATURES = {
     "reach": ["k", "part", "tools", "made"],
     "order": ["part", "tools"],
     "round_of": ["k", "part", "tools"],
+    "waits": ["a", "b", "part", "tools"],
 }
 
 

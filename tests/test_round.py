@@ -4,13 +4,8 @@ import random
 import unittest
 
 from cutreach.tools import order, reach, round_of
-from helper import GREATEST, REFUSED, CallCase, Reading, draw, drawn, part_text, signs, snake, tool_text
-
-
-def row_of_cells(places):
-    """Cells of a row of five in the order of these places, to which the tools come from the right alone."""
-    part = part_text((5, 1, 1), [(x, 0, 0, 1, 1, 1) for x in places])
-    return part, tool_text([(k, "r", 16) for k in range(len(places))])
+from helper import (GREATEST, REFUSED, CallCase, Reading, draw, drawn, part_text, row_of_cells, signs, snake,
+                    tool_text)
 
 
 class RoundCase(CallCase):
