@@ -86,6 +86,17 @@ def waits(a, b, part, tools):
     return [0] if b in without else [1]
 
 
+def ways(k, part, tools):
+    """How many ways there are from which cut k can be reached at its turn in the order, then they, or the refusal."""
+    plan = read_call([k], part, tools)
+    if plan.refusal:
+        return plan.refusal
+    made = order_of(list(range(len(plan.cuts))), plan)
+    if k not in made:
+        return [NEVER_MADE]
+    return counted(ways_to(k, plan, wood_left(plan, made[:made.index(k)])))
+
+
 def counted(numbers):
     """How many numbers there are, then they."""
     return [len(numbers)] + numbers

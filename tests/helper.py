@@ -196,6 +196,11 @@ class Reading:
             made.append(self.ready(made)[0])
         return made
 
+    def ways(self, k):
+        """The ways of cut k at its turn; None if it's never made."""
+        made = self.order()
+        return self.ways_reached(k, made[:made.index(k)]) if k in made else None
+
     def round_of(self, k):
         made = []
         number = 1

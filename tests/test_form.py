@@ -32,6 +32,7 @@ SIGNATURES = {
     "order": ["part", "tools"],
     "round_of": ["k", "part", "tools"],
     "waits": ["a", "b", "part", "tools"],
+    "ways": ["k", "part", "tools"],
 }
 
 
